@@ -195,6 +195,25 @@ func readText(text string, at int64) (string, int64, error) {
 	return joined(text[start:end]), end, nil
 }
 
+// readList decodes a number of elements and the elements, which read decodes.
+func readList[T any](text string, at int64, most int64, read func(string, int64) (T, int64, error)) ([]T, int64, error) {
+	count, at, err := readNum(text, at)
+	if err != nil {
+		return nil, 0, err
+	}
+	if count < 0 || count > most {
+		return nil, 0, malformed{ErrSyntax}
+	}
+	list := make([]T, count)
+	for i := range list {
+		list[i], at, err = read(text, at)
+		if err != nil {
+			return nil, 0, err
+		}
+	}
+	return list, at, nil
+}
+
 // NameRight: see chapter 2.
 func NameRight(t string) bool {
 	if len(t) < 1 || len(t) > maxNameBytes || !isLetter(t[0]) {
