@@ -181,26 +181,40 @@ func sampleStore(t *testing.T) impl.Store {
 	return storeOf(t, 2, sampleChanges()...)
 }
 
-// sizedChange has a record of 18 to 53 bytes.
-func sizedChange(size int) change {
+// sizedPut has a record of 18 to 53 bytes.
+func sizedPut(who int64, size int) change {
 	key := min(size-17, 20)
-	return puts(strings.Repeat("k", key), 1, oneSet(1, strings.Repeat("d", size-17-key)))
+	return puts(strings.Repeat("k", key), who, oneSet(1, strings.Repeat("d", size-17-key)))
 }
 
-// sizedStore has a log of that many bytes, all of it puts of one key but for at most the last ones.
-func sizedStore(t *testing.T, size int) impl.Store {
+func sizedChange(size int) change {
+	return sizedPut(1, size)
+}
+
+// filled has a log of that many bytes: behind what it had, all of it are puts of one key of the node itself but for at most the last ones.
+func filled(t *testing.T, s impl.Store, size int) impl.Store {
 	t.Helper()
+	rest := size - len(s.Log)
 	var changes []change
-	rest := size
 	for ; rest > 106; rest -= 40 {
-		changes = append(changes, sizedChange(40))
+		changes = append(changes, sizedPut(s.Node, 40))
 	}
-	changes = append(changes, sizedChange(rest/2), sizedChange(rest-rest/2))
-	s := synced(storeOf(t, 1, changes...))
+	for _, c := range append(changes, sizedPut(s.Node, rest/2), sizedPut(s.Node, rest-rest/2)) {
+		next, code := changed(s, c)
+		if code != impl.OK {
+			t.Fatalf("filling a log of %d bytes: code %d", len(s.Log), code)
+		}
+		s = next
+	}
 	if len(s.Log) != size {
 		t.Fatalf("a log of %d bytes, want %d", len(s.Log), size)
 	}
-	return s
+	return synced(s)
+}
+
+func sizedStore(t *testing.T, size int) impl.Store {
+	t.Helper()
+	return filled(t, impl.Store{Node: 1}, size)
 }
 
 func TestStoreLimits(t *testing.T) {
