@@ -457,44 +457,48 @@ func TestMsgTurnErrors(t *testing.T) {
 	}
 }
 
+// wrongMsgs changes a valid message in one respect each, so that it is invalid.
+func wrongMsgs(m impl.Msg) map[string]impl.Msg {
+	l := map[string]impl.Msg{}
+	with := func(what string, change func(m *impl.Msg)) {
+		wrong := m
+		change(&wrong)
+		l[what] = wrong
+	}
+	with("kind 0", func(m *impl.Msg) { m.Kind = 0 })
+	with("kind 5", func(m *impl.Msg) { m.Kind = 5 })
+	with("From 0", func(m *impl.Msg) { m.From = 0 })
+	with("From 6", func(m *impl.Msg) { m.From = 6 })
+	with("To 0", func(m *impl.Msg) { m.To = 0 })
+	with("To 6", func(m *impl.Msg) { m.To = 6 })
+	with("For 0", func(m *impl.Msg) { m.For = 0 })
+	with("For 6", func(m *impl.Msg) { m.For = 6 })
+	with("Req -1", func(m *impl.Msg) { m.Req = -1 })
+	with("late Req", func(m *impl.Msg) { m.Req = impl.MaxTime + 1 })
+	with("empty Key", func(m *impl.Msg) { m.Key = "" })
+	with("long Key", func(m *impl.Msg) { m.Key = strings.Repeat("k", 21) })
+	with("longer Key", func(m *impl.Msg) { m.Key = strings.Repeat("k", impl.MaxBytes+1) })
+	with("no dot", func(m *impl.Msg) { m.Set.Seen = []impl.Mark{{Node: 6, N: 1}} })
+	with("unseen Sib", func(m *impl.Msg) { m.Set = impl.Set{Sibs: nodeSet(1, 1).Sibs} })
+	with("too many Sibs", func(m *impl.Msg) { m.Set = nodeSet(1, impl.MaxSibs+1) })
+	with("MsRead with a Set", func(m *impl.Msg) { m.Kind, m.Req, m.Set = impl.MsRead, 1, seenSet(1) })
+	with("MsRead of a handoff", func(m *impl.Msg) { m.Kind, m.Req, m.Set = impl.MsRead, 0, impl.Set{} })
+	with("MsTold of a handoff", func(m *impl.Msg) { m.Kind, m.Req = impl.MsTold, 0 })
+	with("MsKeep without a Set", func(m *impl.Msg) { m.Kind, m.Set = impl.MsKeep, impl.Set{} })
+	with("MsKept without Seen", func(m *impl.Msg) { m.Kind, m.Set = impl.MsKept, impl.Set{} })
+	with("MsKept with Sibs", func(m *impl.Msg) { m.Kind, m.Set = impl.MsKept, nodeSet(1, 1) })
+	return l
+}
+
 func TestMsgTurnOfInvalidMessages(t *testing.T) {
-	for what, change := range map[string]func(m *impl.Msg){
-		"kind 0":     func(m *impl.Msg) { m.Kind = 0 },
-		"kind 5":     func(m *impl.Msg) { m.Kind = 5 },
-		"From 0":     func(m *impl.Msg) { m.From = 0 },
-		"From 6":     func(m *impl.Msg) { m.From = 6 },
-		"To 0":       func(m *impl.Msg) { m.To = 0 },
-		"To 6":       func(m *impl.Msg) { m.To = 6 },
-		"For 0":      func(m *impl.Msg) { m.For = 0 },
-		"For 6":      func(m *impl.Msg) { m.For = 6 },
-		"Req -1":     func(m *impl.Msg) { m.Req = -1 },
-		"late Req":   func(m *impl.Msg) { m.Req = impl.MaxTime + 1 },
-		"empty Key":  func(m *impl.Msg) { m.Key = "" },
-		"long Key":   func(m *impl.Msg) { m.Key = strings.Repeat("k", 21) },
-		"no dot":     func(m *impl.Msg) { m.Set.Seen = []impl.Mark{{Node: 6, N: 1}} },
-		"unseen Sib": func(m *impl.Msg) { m.Set = impl.Set{Sibs: nodeSet(1, 1).Sibs} },
-	} {
-		for _, m := range sampleMsgs() {
-			change(&m)
+	for _, m := range sampleMsgs() {
+		for what, wrong := range wrongMsgs(m) {
 			for kind := int64(1); kind <= 4; kind++ {
 				for _, set := range answerSets() {
-					wantMsgCode(t, what, impl.MsgTurn(m, kind, set), impl.ErrForm)
+					wantMsgCode(t, what, impl.MsgTurn(wrong, kind, set), impl.ErrForm)
 				}
 			}
 		}
-	}
-	// What is wrong with these is neither in the answer nor in the Set.
-	for _, m := range []impl.Msg{
-		{Kind: impl.MsRead, From: 1, To: 2, Req: 3, Key: "x", For: 2, Set: seenSet(1)},
-		{Kind: impl.MsRead, From: 1, To: 2, Req: 0, Key: "x", For: 2},
-		{Kind: impl.MsTold, From: 1, To: 2, Req: 0, Key: "x", For: 2, Set: nodeSet(1, 1)},
-		{Kind: impl.MsKeep, From: 1, To: 2, Req: 3, Key: "x", For: 2},
-		{Kind: impl.MsKept, From: 1, To: 2, Req: 3, Key: "x", For: 2},
-		{Kind: impl.MsKept, From: 1, To: 2, Req: 3, Key: "x", For: 2, Set: nodeSet(1, 1)},
-		{Kind: 5, From: 1, To: 2, Req: 3, Key: "x", For: 2, Set: nodeSet(1, 1)},
-	} {
-		wantMsgCode(t, "an invalid message", impl.MsgTurn(m, impl.MsKeep, nodeSet(2, 1)), impl.ErrForm)
-		wantMsgCode(t, "an invalid message", impl.MsgTurn(m, impl.MsKept, seenSet(1)), impl.ErrForm)
 	}
 }
 
